@@ -1,0 +1,1 @@
+"""peershelf: package instances with shared peers, and installations that stop anywhere."""
