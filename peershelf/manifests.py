@@ -1,7 +1,7 @@
 """Packages, projects and locks: what they are, and which manifest a package has."""
 
 from peershelf.errors import BadLock, BadPackages, BadProject
-from peershelf.versions import is_range, is_version
+from peershelf.versions import is_range, is_version, version_numbers
 
 LETTERS = "abcdefghijklmnopqrstuvwxyz"
 NAME_SIGNS = "abcdefghijklmnopqrstuvwxyz0123456789-"
@@ -28,6 +28,11 @@ def is_tuple_of(value, many):
 def is_tuple_up_to(value, most):
     """Whether a value is a tuple with at most so many items."""
     return type(value) == tuple and len(value) <= most
+
+
+def are_texts(value):
+    """Whether a value is a tuple of texts."""
+    return type(value) == tuple and all([type(item) == str for item in value])
 
 
 def all_different(members):
@@ -89,6 +94,18 @@ def check_lock(value):
         raise BadLock(f"a lock is a tuple of at most {MOST_ENTRIES} entries")
     if not all_different([entry[:2] for entry in value]):
         raise BadLock("two entries have the same name and the same range")
+
+
+def check_all(packages, project, lock):
+    """Raise BadPackages, BadProject, BadLock for what is none, in this order."""
+    check_packages(packages)
+    check_project(project)
+    check_lock(lock)
+
+
+def package_order(row):
+    """What orders tuples that begin with a name and a version, by name and then by version."""
+    return (row[0], version_numbers(row[1]))
 
 
 def manifest_of(packages, name, version):

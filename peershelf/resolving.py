@@ -1,7 +1,7 @@
 """Which versions the dependencies of a project resolve to."""
 
 from peershelf.errors import NoVersion
-from peershelf.manifests import check_lock, check_packages, check_project, manifest_of
+from peershelf.manifests import check_all, check_lock, check_packages, manifest_of
 from peershelf.versions import satisfies, version_numbers
 
 
@@ -18,6 +18,14 @@ def locked_version(packages, lock, dependency):
         if (name, wanted) == dependency and version in candidate_versions(packages, dependency):
             return version
     return None
+
+
+def all_locked_versions(packages, project, lock):
+    """For each dependency of a project and of packages the version that a lock keeps, or None; all are checked."""
+    dependencies = list(project)
+    for manifest in packages:
+        dependencies.extend(manifest[2])
+    return {dependency: locked_version(packages, lock, dependency) for dependency in dependencies}
 
 
 def kept_version(packages, lock, dependency):
@@ -41,9 +49,7 @@ def resolved_version(packages, lock, dependency):
 
 def resolve(packages, project, lock):
     """The lock that a project resolves to; raises BadPackages, BadProject, BadLock, NoVersion."""
-    check_packages(packages)
-    check_project(project)
-    check_lock(lock)
+    check_all(packages, project, lock)
     resolved = {}
     waiting = sorted(project)
     at = 0
