@@ -51,6 +51,27 @@ def wishes(text):
     return tuple(tuple(part.strip().split(" ", 1)) for part in text.split(",") if part.strip())
 
 
+def nonsense():
+    """Values that are no shelf, no instance, no link, no index and no name; a new list each time."""
+    values = [value for value in not_checkable() if type(value) is not int]
+    return values + [-1, 10 ** 30, 0.0, HostileTuple(((), ())), HostileText("core"), float("nan"), ("nowhere",)]
+
+
+def replaced(value, at, new):
+    """A nested tuple with another value at a place that is told by a tuple of indices."""
+    if not at:
+        return new
+    return value[:at[0]] + (replaced(value[at[0]], at[1:], new),) + value[at[0] + 1:]
+
+
+def places(value, at=()):
+    """All places in a nested tuple."""
+    yield at
+    if type(value) is tuple:
+        for index, item in enumerate(value):
+            yield from places(item, at + (index,))
+
+
 class CheckedCase(unittest.TestCase):
     """Tests that ask for one error and no other one."""
 

@@ -9,8 +9,12 @@ import pathlib
 import unittest
 
 from peershelf.errors import ShelfError
+from peershelf.occurrences import View
+from peershelf.works import Works
 
 PACKAGE = pathlib.Path(__file__).resolve().parent.parent / "peershelf"
+
+WORLD = ("packages", "project", "lock")
 
 # Each function and class of the interface, under the module that lists it, with the names of its arguments.
 INTERFACE = {
@@ -23,6 +27,26 @@ INTERFACE = {
         "find_package": ("packages", "name", "version")},
     "peershelf.resolving": {
         "kept_version": ("packages", "lock", "dependency"), "resolve": ("packages", "project", "lock")},
+    "peershelf.occurrences": {"View": WORLD, "occurrences": WORLD},
+    "peershelf.shelves": {
+        "build": WORLD, "shelf_indices": WORLD, "duplicates": WORLD, "tell_apart": WORLD + ("one", "other"),
+        "is_valid": WORLD + ("shelf",)},
+    "peershelf.papers": {
+        "judge_apart": WORLD + ("one", "other", "paper"), "judge_onto": WORLD + ("shelf", "paper"),
+        "judge_fewest": WORLD + ("shelf", "paper"), "explain_apart": WORLD + ("one", "other"),
+        "explain_fewest": WORLD + ("shelf",), "explain_onto": WORLD + ("shelf",)},
+    "peershelf.works": {"Works": ()},
+}
+
+# Each method that the interface lists for a class, with the names of its arguments.
+METHODS = {
+    ("peershelf.occurrences", "View"): {
+        "package": ("path",), "sees": ("path", "name"), "links": ("path",), "__len__": (), "__iter__": ()},
+    ("peershelf.works", "Works"): {
+        "packages": (), "publish": ("manifest",), "withdraw": ("name", "version"),
+        "set_dependency": ("project", "name", "wanted"), "update": ("project", "names"),
+        "install": ("project", "outcomes", "most"), "follow": ("project", "names"), "status": ("project",),
+        "entries": (), "collect": (), "tried": (), "foresee": ("project", "outcomes", "most"), "__len__": ()},
 }
 
 # What would reach a clock, random numbers, files, or the world outside otherwise.
@@ -32,6 +56,16 @@ PACKAGES = (("core", "2.0.0", (), ()), ("left", "1.0.0", (("plug", "*"), ("core"
             ("core", "1.0.0", (), ()), ("plug", "1.0.0", (), ()))
 PROJECT = (("left", "*"), ("core", "^1.0.0"))
 LOCK = (("left", "*", "1.0.0"), ("core", "*", "1.0.0"))
+
+# Packages and a project that has a shelf: core in two versions, plug in two instances.
+GOOD = ((("core", "2.0.0", (), ()), ("plug", "1.0.0", (), (("core", "*"),)), ("core", "1.0.0", (), ()),
+         ("left", "1.0.0", (("plug", "*"), ("core", "^1.0.0")), ())),
+        (("plug", "*"), ("left", "*"), ("core", "*")),
+        (("plug", "*", "1.0.0"), ("left", "*", "1.0.0"), ("core", "^1.0.0", "1.0.0"), ("core", "*", "2.0.0")))
+SHELF = ((("core", 0), ("left", 1), ("plug", 2)),
+         (("core", "2.0.0", (), ()), ("left", "1.0.0", (("core", 3), ("plug", 4)), ()),
+          ("plug", "1.0.0", (), (("core", 0),)), ("core", "1.0.0", (), ()), ("plug", "1.0.0", (), (("core", 3),))))
+TWO = (("plug",), ("left", "plug"))
 
 CALLS = (
     ("peershelf.versions", "is_version", ("1.0.0",)),
@@ -51,6 +85,25 @@ CALLS = (
     ("peershelf.resolving", "kept_version", (PACKAGES, LOCK, ("core", "*"))),
     ("peershelf.resolving", "resolve", (PACKAGES, PROJECT, LOCK)),
     ("peershelf.resolving", "resolve", (PACKAGES, list(PROJECT), LOCK)),
+    ("peershelf.occurrences", "occurrences", GOOD),
+    ("peershelf.occurrences", "occurrences", (PACKAGES, PROJECT, LOCK)),
+    ("peershelf.occurrences", "occurrences", (list(GOOD[0]), list(GOOD[1]), list(GOOD[2]))),
+    ("peershelf.shelves", "build", GOOD),
+    ("peershelf.shelves", "shelf_indices", GOOD),
+    ("peershelf.shelves", "duplicates", GOOD),
+    ("peershelf.shelves", "tell_apart", GOOD + TWO),
+    ("peershelf.shelves", "tell_apart", GOOD + (["plug"], ["left"])),
+    ("peershelf.shelves", "is_valid", GOOD + (SHELF,)),
+    ("peershelf.shelves", "is_valid", GOOD + ([list(SHELF[0]), list(SHELF[1])],)),
+    ("peershelf.papers", "judge_apart", GOOD + TWO + (("apart", ("core",)),)),
+    ("peershelf.papers", "judge_apart", GOOD + TWO + (["same", [["plug"], ["plug"]]],)),
+    ("peershelf.papers", "judge_onto", GOOD + (SHELF, ("onto", (0, 1, 2, 3, 4)))),
+    ("peershelf.papers", "judge_onto", GOOD + (SHELF, ["onto", [0, 1, 2, 3, 4]])),
+    ("peershelf.papers", "judge_fewest", GOOD + (SHELF, ("fewest", (("core",),)))),
+    ("peershelf.papers", "judge_fewest", GOOD + (SHELF, ["fewest", [["core"]]])),
+    ("peershelf.papers", "explain_apart", GOOD + TWO),
+    ("peershelf.papers", "explain_fewest", GOOD + (SHELF,)),
+    ("peershelf.papers", "explain_onto", GOOD + (SHELF,)),
 )
 
 
@@ -76,6 +129,29 @@ class Interface(unittest.TestCase):
                 with self.subTest(f"{module}.{name}"):
                     signature = inspect.signature(getattr(importlib.import_module(module), name))
                     self.assertEqual(tuple(signature.parameters), arguments)
+
+
+    def test_each_method_is_defined_in_its_class(self):
+        for (module, name), methods in METHODS.items():
+            owner = getattr(importlib.import_module(module), name)
+            for method, arguments in methods.items():
+                with self.subTest(f"{module}.{name}.{method}"):
+                    self.assertIn(method, vars(owner))
+                    self.assertEqual(tuple(inspect.signature(vars(owner)[method]).parameters)[1:], arguments)
+
+    def test_what_is_passed_by_keyword(self):
+        for method in ("install", "foresee"):
+            parameters = inspect.signature(getattr(Works, method)).parameters
+            self.assertEqual(parameters["outcomes"].default, ())
+            self.assertEqual(parameters["most"].default, 1000)
+            self.assertIs(parameters["most"].kind, inspect.Parameter.KEYWORD_ONLY)
+            with self.assertRaises(TypeError):
+                getattr(Works(), method)(0, (), 5)
+
+    def test_the_attributes_are_set_when_the_object_is_created(self):
+        self.assertIn("paths", vars(View(*GOOD)))
+        for name in ("projects", "locks", "shelves"):
+            self.assertIn(name, vars(Works()))
 
 
 class NothingElse(unittest.TestCase):

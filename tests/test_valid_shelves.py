@@ -7,7 +7,8 @@ from peershelf.errors import BadLock, BadPackages, BadProject, Cycle, TooMany
 from peershelf.occurrences import View
 from peershelf.shelves import build, is_valid
 from tests.plain import plain_valid, same_instance
-from tests.support import CheckedCase, Hostile, HostileText, HostileTuple, not_checkable, package, wishes
+from tests.support import (CheckedCase, Hostile, HostileText, nonsense, not_checkable, package, places, replaced,
+                           wishes)
 from tests.worlds import drawn_fold, good_worlds, ladder, lock_of, tree_shelf, turned
 
 PACKAGES = (package("core", "1.0.0"), package("core", "2.0.0"), package("plug", "1.0.0", "", "core *"),
@@ -30,27 +31,6 @@ SHELF = (LINKS, INSTANCES)
 def with_instance(at, instance, shelf=SHELF):
     """A shelf with another instance at an index."""
     return shelf[0], shelf[1][:at] + (instance,) + shelf[1][at + 1:]
-
-
-def nonsense():
-    """Values that are no shelf, no instance, no link, no index and no name; a new list each time."""
-    values = [value for value in not_checkable() if type(value) is not int]
-    return values + [-1, 10 ** 30, 0.0, HostileTuple(SHELF), HostileText("core"), float("nan"), ("core",)]
-
-
-def replaced(value, at, new):
-    """A nested tuple with another value at a place that is told by a tuple of indices."""
-    if not at:
-        return new
-    return value[:at[0]] + (replaced(value[at[0]], at[1:], new),) + value[at[0] + 1:]
-
-
-def places(value, at=()):
-    """All places in a nested tuple."""
-    yield at
-    if type(value) is tuple:
-        for index, item in enumerate(value):
-            yield from places(item, at + (index,))
 
 
 class Case(CheckedCase):

@@ -1,12 +1,13 @@
 """Packages, projects and locks for tests: drawn ones, from a number that the test writes, and large ones."""
 
+import itertools
 import random
 
 from peershelf.errors import ShelfError
 from peershelf.occurrences import View
 from peershelf.resolving import resolve
 from peershelf.versions import satisfies
-from tests.support import package
+from tests.support import package, wishes
 
 VERSIONS = ("1.0.0", "2.0.0", "9.0.0", "10.0.0")
 RANGES = ("*", "*", "*", "^1.0.0", "^2.0.0", ">=2.0.0 <11.0.0", "9.0.0 || 10.0.0", "^1.0.0 || ^2.0.0")
@@ -158,3 +159,27 @@ def turned(draw, shelf):
         return tuple((name, places[index]) for name, index in rows)
     return moved(links), tuple((name, version, moved(own), moved(peers))
                                for name, version, own, peers in [instances[old] for old in order])
+
+
+def crowd():
+    """16 packages of which nearly every occurrence is an instance of its own: c1 to c8 choose a or b anew, in turn.
+
+    a and b share each other, and z and y with the project. So the versions of these four that a project has are in the
+    key of each instance, and the projects of `crowded` need more than 1000 entries together.
+    """
+    rows = [package("a", version, "", "b *, z *") for version in ("1.0.0", "2.0.0")]
+    rows += [package("b", version, "", "a *, y *") for version in ("1.0.0", "2.0.0")]
+    rows += [package(name, version) for name in "zy" for version in ("1.0.0", "2.0.0")]
+    choices = ("b 1.0.0, c2 *, c5 *, c8 *", "a 2.0.0, c3 *, c4 *, c7 *, c8 *", "b 1.0.0, c4 *, c5 *",
+               "a 1.0.0, c5 *, c6 *, c7 *", "b 2.0.0, c6 *, c7 *, c8 *", "a 2.0.0, c7 *, c8 *",
+               "b 1.0.0, c8 *", "a 1.0.0")
+    for number, chosen in enumerate(choices, 1):
+        rows.append(package(f"c{number}", "1.0.0", chosen, ("a" if chosen[0] == "b" else "b") + " *, z *, y *"))
+    return tuple(rows)
+
+
+def crowded(first=("c1", "c2")):
+    """16 projects of the crowd, one for each choice of the versions of z, y, a and b."""
+    more = ", ".join(f"{name} *" for name in first)
+    for z, y, a, b in itertools.product("12", repeat=4):
+        yield wishes(f"z {z}.0.0, y {y}.0.0, a {a}.0.0, b {b}.0.0, {more}")
