@@ -251,6 +251,17 @@ class Fewest(Case):
                               ((("q",), ("q",), ("p",)), False)):
             self.fewest(taken, shelf, ("fewest", chains), some)
 
+    def test_two_instances_side_by_side(self):
+        packages = PACKAGES[:2] + (package("m", "1.0.0", "", "core *"), package("a", "1.0.0", "core 1.0.0, m *"),
+                                   package("b", "1.0.0", "m *", "core *"))
+        project = wishes("a *, b *, core *")
+        some = (packages, project, lock_of(packages, project))
+        shelf = build(*some)
+        self.assertEqual([row[0] for row in shelf[1]], ["a", "b", "core", "core", "m", "m"])
+        self.fewest(True, shelf, ("fewest", (("core",),)), some)
+        self.fewest(False, shelf, ("fewest", ()), some)
+        self.fewest(False, shelf, ("fewest", ((),)), some)
+
     def test_chains_that_tell_nothing_apart_or_lead_nowhere(self):
         for chain in ((), ("plug",), ("nowhere",), ("core", "core"), ("left",), ("plug", "plug")):
             self.fewest(False, BUILT, ("fewest", (("core",), chain)))
@@ -421,6 +432,14 @@ class Makers(Case):
         for some in ((PACKAGES, (), ()), (PACKAGES, wishes("core *"), LOCK)):
             self.fewest(True, build(*some), explain_fewest(*some, build(*some)), some)
             self.onto(True, build(*some), explain_onto(*some, build(*some)), some)
+
+    def test_bad_values_ahead_of_all(self):
+        for function, arguments in ((explain_apart, (("x",), ("y",))), (explain_fewest, (BUILT,)),
+                                    (explain_onto, (BUILT,))):
+            for wrong in not_checkable():
+                self.raises(BadPackages, function, wrong, wrong, wrong, *arguments)
+                self.raises(BadProject, function, PACKAGES, wrong, wrong, *arguments)
+                self.raises(BadLock, function, PACKAGES, wishes("gone *"), wrong, *arguments)
 
     def test_it_is_taken_for_any_two_occurrences(self):
         words = set()
